@@ -1,1 +1,1 @@
-"""A house of cards: what falls, what is free, in how many orders it can be built."""
+"""A house of cards: what falls, in how many orders it can be built, how high it is, who wins by taking."""

@@ -7,19 +7,28 @@ WOULD = 3
 TAKE = 4
 FREE = 5
 ORDERS = 6
+HIGH = 7
+WORTH = 8
+PLAY = 9
+CARDS = 10
+STOREYS = 11
+LOOK = 12
 
 # How many numbers a call has, by its own number; put's rests come on top.
-LENGTHS = (1, 3, 2, 2, 2, 1, 1)
+LENGTHS = (1, 3, 2, 2, 2, 1, 1, 1, 1, 1, 2, 2, 1)
 
 WRONG = -1
 NO_PIECE = -2
 FULL = -5
+NO_TAKE = -6
 NO_HOUSE = -9
 
 CARD = 1
 PAIR = 2
 MOST_PIECES = 9
 MOST_STOREYS = 3
+MOST_STOREYS_COUNTED = 100
+MOST_CARDS_COUNTED = 1000
 
 
 class Piece:
@@ -78,7 +87,19 @@ def answer_call(house, call):
         return take(house, call[1])
     if name == FREE:
         return free(house)
-    return orders(house)
+    if name == ORDERS:
+        return orders(house)
+    if name == HIGH:
+        return high(house)
+    if name == WORTH:
+        return worth(house)
+    if name == PLAY:
+        return play(house)
+    if name == CARDS:
+        return count_cards(call[1])
+    if name == STOREYS:
+        return count_storeys(call[1])
+    return look(house)
 
 
 def begin(house):
@@ -141,7 +162,7 @@ def free(house):
 
 def orders(house):
     """In how many orders the house can be built, counted set by set of what already stands."""
-    marks = set_marks(house)
+    marks = rest_marks(house)
     ways = [1]
     for mark in marks:
         ways = ways + [0] * len(ways)
@@ -153,15 +174,114 @@ def orders(house):
     return [ways[whole]]
 
 
-def set_marks(house):
-    """Of each piece its own bit and the bits of those that it rests on, so that one number tells a set."""
-    bits = {}
-    marks = []
-    own = 1
+def high(house):
+    """How high the house is, then each piece. Those that a piece rests on came before it, so theirs is known."""
+    known = {}
     for number, piece in house.pieces.items():
+        known[number] = 1 + max([known[each] for each in piece.rests], default=0)
+    heights = list(known.values())
+    return [max(heights, default=0)] + heights
+
+
+def worth(house):
+    """What the house is worth, then the lowest piece whose take leaves what's worth 0, if there's one."""
+    marks = fall_marks(house)
+    worths = set_worths(marks)
+    whole = len(worths) - 1
+    for number, mark in zip(list(house.pieces), marks):
+        if worths[whole - mark[1]] == 0:
+            return [worths[whole], number]
+    return [worths[whole]]
+
+
+def play(house):
+    """The piece that worth tells is taken; which."""
+    told = worth(house)
+    if len(told) == 1:
+        return [NO_TAKE]
+    take(house, told[1])
+    return [told[1]]
+
+
+def count_cards(storeys):
+    """How many cards a house of so many storeys has."""
+    if storeys > MOST_STOREYS_COUNTED:
+        return [WRONG]
+    return [cards_needed(storeys)]
+
+
+def count_storeys(cards):
+    """The most storeys that so many cards make, then how many cards are left."""
+    if cards > MOST_CARDS_COUNTED:
+        return [WRONG]
+    storeys = 0
+    while cards_needed(storeys + 1) <= cards:
+        storeys += 1
+    return [storeys, cards - cards_needed(storeys)]
+
+
+def look(house):
+    """How many pieces; of each its number, its cards, on how many it rests, on which as they were told."""
+    seen = [len(house.pieces)]
+    for number, piece in house.pieces.items():
+        seen.extend([number, piece.cards, len(piece.rests)])
+        seen.extend(piece.rests)
+    return seen
+
+
+def cards_needed(storeys):
+    """The pairs go from so many down to one, the cards across from one fewer down to none."""
+    pairs = storeys * (storeys + 1) // 2
+    across = storeys * (storeys - 1) // 2
+    return PAIR * pairs + CARD * across
+
+
+def set_worths(marks):
+    """What each set of pieces is worth, by its bits. A take leaves a smaller number, which is known by then."""
+    size = 1
+    for mark in marks:
+        size = size * 2
+    # Sets that can't stand are counted too: no take leaves one of them, so what they get does no harm.
+    worths = []
+    for stood in range(size):
+        left = [worths[stood & ~falls] for own, falls in marks if (stood & own) != 0]
+        worths.append(least_beside(left))
+    return worths
+
+
+def least_beside(numbers):
+    """The least number, from 0 on, that isn't among these."""
+    least = 0
+    while least in numbers:
+        least += 1
+    return least
+
+
+def piece_bits(house):
+    """A bit of its own for each piece, so that one number tells a set of them."""
+    bits = {}
+    own = 1
+    for number in house.pieces:
         bits[number] = own
-        marks.append((own, sum([bits[each] for each in piece.rests])))
         own = own * 2
+    return bits
+
+
+def rest_marks(house):
+    """Of each piece its own bit and the bits of those that it rests on."""
+    bits = piece_bits(house)
+    marks = []
+    for number, piece in house.pieces.items():
+        marks.append((bits[number], sum([bits[each] for each in piece.rests])))
+    return marks
+
+
+def fall_marks(house):
+    """Of each piece its own bit and the bits of all that fall with it, itself among them."""
+    bits = piece_bits(house)
+    marks = []
+    for number in house.pieces:
+        marks.append((bits[number], sum([bits[each] for each in falling(house, number)])))
     return marks
 
 

@@ -31,6 +31,30 @@ def orders():
     return [6]
 
 
+def high():
+    return [7]
+
+
+def worth():
+    return [8]
+
+
+def play():
+    return [9]
+
+
+def cards(storeys_asked):
+    return [10, storeys_asked]
+
+
+def storeys(cards_there):
+    return [11, cards_there]
+
+
+def look():
+    return [12]
+
+
 def line(calls):
     """The calls one behind another, in one list."""
     joined = []

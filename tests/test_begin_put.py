@@ -2,25 +2,33 @@
 
 import unittest
 
-from asking import ask, begin, free, look_around, orders, put, storeyed, take, would
+from asking import (ask, begin, cards, free, high, look, look_around, orders, play, put, storeyed, storeys, take,
+                    would, worth)
 
 
 class BeforeABegin(unittest.TestCase):
     def test_each_call_is_refused(self):
-        for call in (put(2), put(1, 0), storeyed(2), would(0), take(0), free(), orders()):
+        for call in (put(2), put(1, 0), storeyed(2), would(0), take(0), free(), orders(), high(), worth(), play(),
+                     cards(0), cards(3), cards(100), storeys(0), storeys(15), storeys(1000), look()):
             self.assertEqual(ask(call), [[-9]], call)
 
     def test_wrong_calls_are_refused_for_want_of_a_house_first(self):
-        for call in (put(0), put(3, 7, 7), put(1, 5), storeyed(0), storeyed(9), would(99), take(99)):
+        for call in (put(0), put(3, 7, 7), put(1, 5), storeyed(0), storeyed(9), would(99), take(99), cards(101),
+                     cards(200), storeys(1001), storeys(2000)):
             self.assertEqual(ask(call), [[-9]], call)
 
     def test_nothing_has_begun_by_a_refused_call(self):
-        for call in (put(2), storeyed(3), would(0), take(0), free(), orders()):
-            self.assertEqual(ask(call, orders(), put(1), begin(), free(), put(2)),
-                             [[-9], [-9], [-9], [0], [0], [0]], call)
+        for call in (put(2), storeyed(3), would(0), take(0), free(), orders(), high(), worth(), play(), cards(2),
+                     storeys(7), look()):
+            self.assertEqual(ask(call, orders(), call, put(1), look(), begin(), look(), put(2)),
+                             [[-9], [-9], [-9], [-9], [-9], [0], [0], [0]], call)
 
     def test_a_put_with_rests_is_passed_over_whole(self):
         self.assertEqual(ask(put(2, 0, 0, 5, 6), put(1, 0), begin(), free()), [[-9], [-9], [0], [0]])
+
+    def test_cards_and_storeys_are_passed_over_whole(self):
+        self.assertEqual(ask(cards(0), storeys(0), cards(1), storeys(2), begin(), look()),
+                         [[-9], [-9], [-9], [-9], [0], [0]])
 
 
 class Begin(unittest.TestCase):

@@ -113,11 +113,10 @@ class Language(unittest.TestCase):
                 if isinstance(node, ast.Call) and isinstance(node.func, ast.Attribute):
                     self.assertIn(node.func.attr, own | set(METHODS), name)
 
-    def test_nothing_from_outside_is_imported(self):
+    def test_nothing_is_imported(self):
         for name, tree in trees():
             for node in ast.walk(tree):
-                if isinstance(node, ast.ImportFrom):
-                    self.assertEqual((node.level, node.module.split(".")[0]), (0, "leanhouse"), name)
+                self.assertNotIsInstance(node, (ast.Import, ast.ImportFrom), name)
 
 
 if __name__ == "__main__":
